@@ -1,0 +1,1 @@
+"""Packets from link to link, in pieces."""
