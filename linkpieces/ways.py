@@ -50,6 +50,11 @@ def next_address(way, address):
     return way.next_machine
 
 
+# The link has to be on.
+def own_way(machine, k):
+    return Way(machine.links[k].bits, k, NOBODY)
+
+
 def way_to(machine, address):
     for others in range(ADDRESS_BITS + 1):
         way = way_with_bits(machine, address, ADDRESS_BITS - others)
@@ -64,7 +69,7 @@ def way_with_bits(machine, address, bits):
     for k in range(LINK_COUNT):
         link = machine.links[k]
         if link is not None and link.bits == bits and first_bits(link.address, bits) == start:
-            return Way(bits, k, NOBODY)
+            return own_way(machine, k)
     told = machine.ways.get((start, bits))
     if told is None or machine.links[told.link] is None:
         return None

@@ -3,8 +3,7 @@
 import random
 import unittest
 
-from tests.asking import (DONE, EVERYBODY, HERE, NET, NOT_THERE, ROUTER, WRONG, ask, ask_last, best, found, link,
-                          way)
+from tests.asking import (DONE, EVERYBODY, HERE, NET, NOT_THERE, ROUTER, WRONG, ask, ask_last, best, found, link, way)
 
 FAR = 0xC0000001
 

@@ -20,6 +20,14 @@ isupper items join keys ljust lower lstrip partition pop remove replace reverse 
 setdefault split splitlines startswith strip update upper values zfill bit_length""".split()
 WORDS_NOWHERE = """type typing typing_extensions enum Enum IntEnum StrEnum Flag IntFlag Generic Protocol ABC ABCMeta
 namedtuple NamedTuple TypedDict TYPE_CHECKING abstractmethod""".split()
+PARTS_NOWHERE = ("dataclass", "overload", "contextmanager")
+NAMES_NOT_USED = """register mro elements open input version_info with_traceback add_note attrgetter breakpoint builtins
+compile copyright credits delattr dir eval exec exit gc getattr globals hasattr help id importlib license locals
+methodcaller os quit setattr super type vars sys""".split()
+KEYWORDS = {"sorted": ("key", "reverse"), "min": ("key", "default"), "max": ("key", "default"), "sum": ("start",),
+            "enumerate": ("start",), "zip": ("strict",)}
+VALUES_NOT_SO_CALLED = """items keys values pop update append clear extend insert remove reverse setdefault sort args
+encode format""".split()
 
 
 def is_docstring(node):
@@ -62,6 +70,7 @@ class FormTest(unittest.TestCase):
         for name, text in self.texts.items():
             words = re.findall(r"[A-Za-z0-9_]+", text)
             self.assertEqual([word for word in words if word in WORDS_NOWHERE], [], name)
+            self.assertEqual([part for part in PARTS_NOWHERE if part in text], [], name)
 
     def test_imports(self):
         for name, node in self.walk_all((ast.Import, ast.ImportFrom)):
@@ -114,10 +123,46 @@ class FormTest(unittest.TestCase):
             self.assertEqual([node.id for node in ast.walk(tree) if isinstance(node, ast.Name)
                               and node.id not in bound and node.id not in OWN_NAMES], [], name)
 
+    def test_names_that_are_not_used(self):
+        for name, tree in self.trees.items():
+            used = names_bound_in(tree) + [node.id for node in ast.walk(tree) if isinstance(node, ast.Name)]
+            used += [node.attr for node in ast.walk(tree) if isinstance(node, ast.Attribute)]
+            self.assertEqual([word for word in used if word in NAMES_NOT_USED], [], name)
+
+    def test_no_parameter_or_local_is_called_like_a_class_or_an_import(self):
+        for name, tree in self.trees.items():
+            taken = [part.name for node in tree.body if isinstance(node, ast.ImportFrom) for part in node.names]
+            taken += [node.name for node in tree.body if isinstance(node, ast.ClassDef)]
+            inner = [word for node in tree.body if isinstance(node, (ast.FunctionDef, ast.ClassDef))
+                     for part in node.body for word in names_bound_in(part)]
+            inner += [node.arg for node in ast.walk(tree) if isinstance(node, ast.arg)]
+            self.assertEqual([word for word in inner if word in taken], [], name)
+
+    def test_a_files_top_binds_each_name_once_to_a_plain_value(self):
+        for name, tree in self.trees.items():
+            bound = [part.name for node in tree.body if isinstance(node, ast.ImportFrom) for part in node.names]
+            bound += [node.name for node in tree.body if isinstance(node, (ast.FunctionDef, ast.ClassDef))]
+            for node in tree.body[1:]:
+                self.assertIsInstance(node, (ast.ImportFrom, ast.FunctionDef, ast.ClassDef, ast.Assign), name)
+                if isinstance(node, ast.Assign):
+                    ast.literal_eval(node.value)
+                    bound.append(node.targets[0].id)
+            self.assertEqual(len(bound), len(set(bound)), name)
+
+    def test_keywords_and_texts(self):
+        for name, node in self.walk_all(ast.Call):
+            allowed = KEYWORDS.get(node.func.id, ()) if isinstance(node.func, ast.Name) else ()
+            self.assertEqual([part.arg for part in node.keywords if part.arg not in allowed], [], (name, node.lineno))
+        for name, node in self.walk_all(ast.Constant):
+            self.assertFalse(isinstance(node.value, str) and "%" in node.value, (name, node.lineno))
+        for name, node in self.walk_all((ast.arg, ast.FunctionDef)):
+            self.assertIsNone(node.annotation if isinstance(node, ast.arg) else node.returns, name)
+
     def test_methods_and_values(self):
         methods = [part.name for name, node in self.walk_all(ast.ClassDef) for part in node.body]
         values = [node.attr for name, node in self.walk_all(ast.Attribute) if isinstance(node.ctx, ast.Store)]
         self.assertEqual(set(methods) & set(values), set())
+        self.assertEqual(set(values) & set(VALUES_NOT_SO_CALLED), set())
         for name, node in self.walk_all(ast.Attribute):
             self.assertIn(node.attr, METHODS + methods + values, (name, node.lineno))
 

@@ -2,11 +2,8 @@
 
 import unittest
 
-from tests.asking import (DONE, EVERYBODY, HERE, NOT_THERE, NO_ROOM, WRONG, ask, ask_last, away, best, found, link,
-                          new, pass_on, way)
-
-LOWEST = -2147483648
-HIGHEST = 2147483647
+from tests.asking import (DONE, EVERYBODY, HERE, HIGHEST, LOWEST, NOT_THERE, NO_ROOM, WRONG, ask, ask_last, away, best,
+                          found, link, new, pass_on, way)
 
 
 class NewTest(unittest.TestCase):

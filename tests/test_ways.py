@@ -2,18 +2,15 @@
 
 import unittest
 
-from tests.asking import (DONE, EVERYBODY, HERE, NET, NOT_THERE, NO_ROOM, ROUTER, WRONG, ask, ask_last, away, best,
-                          found, link, way)
+from tests.asking import (DONE, EVERYBODY, HERE, HIGHEST, LOWEST, NET, NOT_THERE, NO_ROOM, ROUTER, WRONG, ask,
+                          ask_behind, ask_last, away, best, found, link, way)
 
-LOWEST = -2147483648
-HIGHEST = 2147483647
 LINKS = [link(k, 0xC0000001 + k, 32) for k in range(4)]
 FULL = [way(n, 32, 0) for n in range(256)]
 
 
 def ask_linked(*calls):
-    """The answers behind those of LINKS."""
-    return ask(*LINKS, *calls)[len(LINKS):]
+    return ask_behind(LINKS, calls)
 
 
 class WayTest(unittest.TestCase):
