@@ -80,6 +80,20 @@ class KeptTest(unittest.TestCase):
         ask(link(0, HERE), way(0, 0, 0, 5), pass_on(1))
         self.assertEqual(ask(best(HERE), away(0, 0), link(0, HERE), best(7)), [NOT_THERE, NOT_THERE, DONE, NOT_THERE])
 
+    def test_no_packet_piece_name_time_or_count_is_kept_from_one_list_to_the_next(self):
+        calls = [link(0, HERE), way(0, 0, 0, ROUTER), pass_on(1), tick(5), send(filled(2000)), take(packet()),
+                 take(packet(filled(8), flags=MORE)), take(packet(to=OTHER)), take(packet(to=OTHER, hops=1)),
+                 error(packet()), told()]
+        numbers = [number for call in calls for number in call]
+        as_it_was = list(numbers)
+        answered = answers(numbers)
+        self.assertEqual(numbers, as_it_was)
+        self.assertEqual(answered[-8:], [7, *counted(1, 1, 3, 1, 1, 1)])
+        self.assertEqual(answers(numbers), answered)
+        self.assertEqual(numbers, as_it_was)
+        self.assertEqual(ask(told(), tick(0), link(0, HERE), take(packet(filled(3), place=1)), told()),
+                         [counted(), DONE, DONE, [3], counted(pieces=1)])
+
     def test_nothing_is_printed(self):
         out, err = io.StringIO(), io.StringIO()
         with contextlib.redirect_stdout(out), contextlib.redirect_stderr(err):
